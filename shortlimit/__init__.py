@@ -1,0 +1,1 @@
+"""Shortlimit: words of bits for signs by their weights."""
