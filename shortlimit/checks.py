@@ -1,6 +1,6 @@
 """The limits of what is handed in, and the checks that refuse what is beyond them."""
 
-from shortlimit.errors import BadBound, BadLengths, BadWeight, NoWeights
+from shortlimit.errors import BadBound, BadLengths, BadWeight, BadWords, NoSign, NoWeights
 
 MOST_SIGNS = 24
 MOST_WEIGHT = 1000000000000
@@ -13,6 +13,11 @@ def is_number(thing, least, most):
     if isinstance(thing, bool) or not isinstance(thing, int):
         return False
     return least <= thing <= most
+
+
+def is_bits(thing):
+    """Tell whether a thing is a text of the bits 0 and 1, perhaps without any."""
+    return isinstance(thing, str) and all([bit in "01" for bit in thing])
 
 
 def check_bound(bound):
@@ -37,3 +42,24 @@ def check_lengths(lengths, bound):
     for length in lengths:
         if not is_number(length, 1, bound):
             raise BadLengths(f"a length is a number from 1 to {bound}")
+
+
+def check_words(words):
+    """Refuse with BadWords what are no words, or words of which one begins another one."""
+    if len(words) > MOST_SIGNS:
+        raise BadWords(f"there are at most {MOST_SIGNS} words")
+    for word in words:
+        if not is_bits(word) or not 1 <= len(word) <= MOST_BITS:
+            raise BadWords(f"a word is a text of 1 to {MOST_BITS} bits")
+    risen = sorted(words)
+    # Between a word and those that it begins none else can stand, so neighbours are enough.
+    for ahead, word in zip(risen, risen[1:]):
+        if word.startswith(ahead):
+            raise BadWords("no word begins another one, and none is told twice")
+
+
+def check_row(row, many):
+    """Refuse with NoSign a row with something in it that is no number of so many signs."""
+    for sign in row:
+        if not is_number(sign, 0, many - 1):
+            raise NoSign(f"there are {many} signs, known by their numbers from 0 on")

@@ -1,6 +1,7 @@
 """How many places a room has, lengths take, and signs are barred from."""
 
 from shortlimit.checks import check_bound, check_lengths, check_weights
+from shortlimit.errors import NoRoom
 
 
 def places(length, bound):
@@ -28,3 +29,11 @@ def barred(weights, bound):
     if len(weights) <= there:
         return None
     return len(weights), there
+
+
+def check_room(weights, bound):
+    """Refuse what barred refuses, and with NoRoom more signs than there are places."""
+    without = barred(weights, bound)
+    if without is not None:
+        many, there = without
+        raise NoRoom(f"there are {many} signs, but {there} places")

@@ -5,10 +5,7 @@ import unittest
 import shortlimit.counts
 from shortlimit.counts import barred, counted, room
 from shortlimit.errors import BadBound, BadLengths, BadWeight, NoWeights
-from tests.helper import NO_NUMBERS, begins_another, refusal
-
-NO_BOUNDS = NO_NUMBERS + (0, 13, -1, -12, 100, 10 ** 30)
-NO_WEIGHTS = NO_NUMBERS + (-1, 1000000000001, -1000000000000, 10 ** 30)
+from tests.helper import NO_BOUNDS, NO_NUMBERS, NO_WEIGHTS, begins_another, refusal
 
 
 def all_words(length):

@@ -1,8 +1,12 @@
 import unittest
 
 import shortlimit.errors
+from shortlimit.bits import Reader, read, written
+from shortlimit.codes import free_code, ordered_code
 from shortlimit.counts import barred, counted, room
 from shortlimit.errors import CodeError
+from shortlimit.packets import free_lengths, packet_rows
+from shortlimit.tables import least_table, ordered_lengths
 from shortlimit.words import words_by_lengths, words_in_order
 
 NAMES = ("NoWeights", "BadWeight", "BadBound", "NoRoom", "BadLengths", "BadWords", "BadBits", "NoSign")
@@ -66,6 +70,24 @@ class Refusals(unittest.TestCase):
         self.check("BadLengths", words_in_order, [0])
         self.check("BadLengths", words_in_order, [1, 1, 1])
         self.check("BadLengths", words_in_order, [2, 1, 2])
+
+    def test_no_room(self):
+        for call in (packet_rows, free_lengths, least_table, ordered_lengths, free_code, ordered_code):
+            self.check("NoRoom", call, [1, 1, 1], 1)
+
+    def test_bad_words(self):
+        self.check("BadWords", Reader, ["0", "01"])
+        self.check("BadWords", written, ["2"], [])
+        self.check("BadWords", read, [""], "")
+
+    def test_bad_bits(self):
+        self.check("BadBits", read, ["0", "10"], "11")
+        self.check("BadBits", read, ["0", "10"], "1")
+        self.check("BadBits", read, ["0", "10"], "2")
+        self.check("BadBits", Reader(["0", "10"]).take, "2")
+
+    def test_no_sign(self):
+        self.check("NoSign", written, ["0", "10"], [2])
 
 
 if __name__ == "__main__":
